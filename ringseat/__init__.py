@@ -1,0 +1,1 @@
+"""Ringseat: guests on a ring, seated alike whatever came first."""
