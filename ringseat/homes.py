@@ -5,11 +5,13 @@ SPREAD = 65536
 HOUSE_RINGS = (8, 16, 32, 64, 128, 256)
 
 
-def is_guest(thing):
+def is_whole(thing):
     # Python counts True and False among the ints; here they are no whole numbers.
-    if isinstance(thing, bool) or not isinstance(thing, int):
-        return False
-    return 0 <= thing < 10 ** 60
+    return isinstance(thing, int) and not isinstance(thing, bool)
+
+
+def is_guest(thing):
+    return is_whole(thing) and 0 <= thing < 10 ** 60
 
 
 def home(guest, many):

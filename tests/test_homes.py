@@ -1,10 +1,10 @@
 import inspect
 import unittest
 
+from helper import LIMIT, home_of
 from ringseat import homes
 from ringseat.homes import ahead, carried, home, is_guest, room
 
-LIMIT = 10 ** 60
 RINGS = (2, 3, 5, 7, 8, 10, 16, 31, 64, 100, 256, 333, 1000, 1023, 1024)
 
 
@@ -19,16 +19,9 @@ def some_guests():
     return guests
 
 
-def home_by_digits(guest, many):
-    """[3] again, by the two lowest digits to the base 65536: the higher ones fall out."""
-    low = guest & 0xFFFF
-    high = (guest >> 16) & 0xFFFF
-    return ((low * 40503 + high) & 0xFFFF) % many
-
-
 def carried_by_steps(guest, at, many):
     """[4] again, going on seat by seat."""
-    seat = home_by_digits(guest, many)
+    seat = home_of(guest, many)
     steps = 0
     while seat != at:
         seat = 0 if seat == many - 1 else seat + 1
@@ -133,7 +126,7 @@ class Home(Kinds):
         for many in range(2, 1025):
             for guest in some_guests():
                 seat = home(guest, many)
-                if type(seat) is not int or seat != home_by_digits(guest, many):
+                if type(seat) is not int or seat != home_of(guest, many):
                     self.fail(f"home({guest}, {many}) is {seat!r}")
 
     def test_the_home_is_a_seat_of_the_ring(self):
@@ -164,7 +157,7 @@ class Carried(Kinds):
     def test_at_home_on_from_it_and_before_it(self):
         for many in RINGS:
             for guest in some_guests():
-                seat = home_by_digits(guest, many)
+                seat = home_of(guest, many)
                 with self.subTest(guest=guest, many=many):
                     self.assertWhole(carried(guest, seat, many), 0)
                     self.assertWhole(carried(guest, (seat + 1) % many, many), 1)
